@@ -1,0 +1,1 @@
+"""Pieces cut from bolts of cloth."""
