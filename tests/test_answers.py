@@ -1,78 +1,65 @@
 """The interface: several calls in one list, and what is handed in and given back."""
 
 import random
+import time
 import unittest
 
 from boltpieces.stock import answers
-from tests.helper import BEGINS, asked, bolt, drop, joined, piece
+from tests.helper import (
+    BEGINS, BEST, STRETCHES, Told, asked, bolt, check, drop, joined, last, more, piece, pieces, told,
+)
+
+
+def some_bolt(source):
+    """Short and cheap ones for the most part, so that many cuttings are as good."""
+    if source.randrange(4) == 0:
+        faults = [(source.randrange(12), source.randrange(14)) for fault in range(source.randrange(3))]
+        return bolt(source.randrange(10, 64), source.randrange(10100), *faults)
+    length = source.randrange(1, 14)
+    faults = [(place, place + 1) for place in range(length) if source.randrange(6) == 0]
+    return bolt(length, source.randrange(3), *faults)
+
+
+def some_check(source, count, stretches):
+    """Now and then a stretch too few or too many, or one that there isn't."""
+    if source.randrange(8) == 0:
+        count = source.randrange(7)
+    if source.randrange(8) == 0:
+        stretches += 1
+    return check(*[source.randrange(max(stretches, 1)) for k in range(count)])
 
 
 def some_calls(seed):
-    """40 calls in some order, right ones and wrong ones."""
+    """40 calls of all kinds in some order, right ones and wrong ones, at most 10 of them best and more."""
     source = random.Random(seed)
     calls = []
-    for turn in range(40):
-        kind = source.randrange(20)
-        if kind == 0:
-            calls.append(BEGINS)
-        elif kind < 8:
-            faults = [(source.randrange(12), source.randrange(14)) for fault in range(source.randrange(3))]
-            calls.append(bolt(source.randrange(10, 64), source.randrange(10100), *faults))
-        elif kind < 15:
-            calls.append(piece(source.randrange(64)))
-        else:
-            calls.append(drop(source.randrange(7)))
+    stock = Told()
+    searches = 0
+    while len(calls) < 40:
+        kind = source.choice([0] + [1] * 8 + [2] * 10 + [3] * 5 + [4] * 2 + [5] * 5 + [6] * 8 + [7] * 5)
+        if kind in (5, 7):
+            searches += 1
+            if searches > 10:
+                continue
+        calls.append([
+            lambda: BEGINS,
+            lambda: some_bolt(source),
+            lambda: piece(source.choice([0, 1, 1, 2, 2, 3, 4, 5, 6, 8, 61])),
+            lambda: drop(source.randrange(7)),
+            lambda: STRETCHES,
+            lambda: BEST,
+            lambda: some_check(source, len(stock.pieces), sum(len(found) for cost, found in stock.bolts)),
+            lambda: more(source.choice([0, 1, 2, 3, 4, 5, 6, 9, 61])),
+        ][kind]())
+        if kind < 4:
+            stock.answer(calls[-1])
     return calls
 
 
-def told_bolt(length, cost, row, bolts):
-    """What bolt is to answer, as the document tells it, place by place."""
-    faults = [tuple(row[k:k + 2]) for k in range(0, len(row), 2)]
-    if length not in range(1, 61) or cost not in range(10001):
-        return [-1]
-    if any(second <= first or second > length for first, second in faults):
-        return [-1]
-    bad = {place for first, second in faults for place in range(first, second)}
-    begins = [p for p in range(length) if p not in bad and (p == 0 or p - 1 in bad)]
-    ends = [p + 1 for p in range(length) if p not in bad and (p + 1 == length or p + 1 in bad)]
-    if len(bolts) == 4 or sum(bolts) + len(begins) > 6:
-        return [-5]
-    bolts.append(len(begins))
-    answer = [len(bolts) - 1]
-    for begin, end in zip(begins, ends):
-        answer += [2, begin, end - begin]
-    return answer
-
-
-def told_piece(length, count):
-    if not 1 <= length <= 60:
-        return -1
-    return -5 if count == 6 else count
-
-
-def told(calls):
-    """What the calls are to answer: the stretches of each bolt and the pieces are only counted."""
-    given = []
-    bolts = []
-    pieces = 0
-    for call in calls:
-        if call[0] == 0:
-            bolts = []
-            pieces = 0
-            given.append([0])
-        elif call[0] == 1:
-            given.append(told_bolt(call[1], call[2], call[4:], bolts))
-        elif call[0] == 2:
-            answer = told_piece(call[1], pieces)
-            if answer >= 0:
-                pieces += 1
-            given.append([answer])
-        elif call[1] < pieces:
-            pieces -= 1
-            given.append([pieces])
-        else:
-            given.append([-2])
-    return given
+def full_stock(costs, lengths):
+    """6 stretches on 4 bolts, as long as can be, and pieces of these lengths."""
+    faults = [[], [], [(29, 30)], [(29, 30)]]
+    return [bolt(60, cost, *found) for cost, found in zip(costs, faults)] + pieces(*lengths)
 
 
 class Answers(unittest.TestCase):
@@ -85,6 +72,29 @@ class Answers(unittest.TestCase):
         self.assertEqual(answers([2, 10]), [1, 0])
         self.assertEqual(answers([2, 0]), [1, -1])
         self.assertEqual(answers([3, 0]), [1, -2])
+        self.assertEqual(answers([4]), [1, 0])
+        self.assertEqual(answers([5]), [6, 0, 2, 0, 1, 0, 0])
+        self.assertEqual(answers([6, 0]), [5, 0, 1, 0, 0, 0])
+        self.assertEqual(answers([6, 1, 0]), [1, -1])
+        self.assertEqual(answers([7, 5]), [1, 0])
+        self.assertEqual(answers([7, 0]), [1, -1])
+
+    def test_calls_of_all_kinds(self):
+        calls = [0, 1, 10, 5, 2, 4, 6, 2, 3, 2, 4, 4, 5, 6, 2, 1, 0, 6, 2, 0, 0, 6, 1, 0, 7, 1, 7, 2, 3, 0, 5]
+        self.assertEqual(
+            answers(calls),
+            [1, 0]
+            + [7, 0, 2, 0, 4, 2, 6, 4]
+            + [1, 0, 1, 1]
+            + [9, 2, 3, 0, 0, 4, 3, 0, 6, 4]
+            + [15, 5, 2, 1, 2, 1, 0, 2, 0, 1, 2, 0, 0, 2, 0, 6]
+            + [14, 5, 1, 1, 1, 0, 2, 1, 0, 2, 0, 6, 2, 0, 0]
+            + [3, -6, 1, 0]
+            + [1, -1]
+            + [3, 1, 1, 0, 1, 0]
+            + [1, 1]
+            + [11, 5, 2, 4, 2, 1, 0, 1, 0, 2, 0, 0],
+        )
 
     def test_several_calls(self):
         calls = [2, 7, 1, 20, 100, 4, 12, 13, 5, 6, 2, 8, 3, 0, 3, 1, 1, 9, 0, 2, 4, 4, 2, 9, 0, 2, 9]
@@ -107,9 +117,34 @@ class Answers(unittest.TestCase):
         )
 
     def test_many_lists_of_forty_calls(self):
-        for seed in range(500):
+        for seed in range(400):
             calls = some_calls(seed)
             self.assertEqual(asked(*calls), told(calls), seed)
+
+    def test_ten_searches_at_six_stretches_and_six_pieces(self):
+        calls = full_stock([5, 3, 2, 2], [3, 5, 6, 7, 9, 11])
+        calls += [STRETCHES, check(0, 1, 2, 3, 4, 5), check(5, 5, 5, 5, 5, 5), check(0, 0, 0, 0, 0, 6)]
+        calls += [BEST, more(60), BEST, more(29), BEST, more(46), BEST, more(60), more(0), BEST]
+        calls += [piece(7), drop(0), drop(0), check(1, 1, 1, 1), STRETCHES, BEGINS, STRETCHES]
+        self.assertLessEqual(len(calls), 40)
+        self.assertEqual(asked(*calls), told(calls))
+
+    def test_full_stocks_of_many_kinds(self):
+        source = random.Random(1)
+        for turn in range(12):
+            costs = [source.choice([0, 1, 2, 3, 10000]) for number in range(4)]
+            lengths = [source.randrange(18, 31) for number in range(6)]
+            calls = full_stock(costs, lengths) + [BEST] + [more(source.randrange(1, 61)) for number in range(9)]
+            self.assertEqual(asked(*calls), told(calls), calls)
+
+    def test_it_can_be_waited_for(self):
+        # Nothing is cheaper than another, everything fits everywhere, and hardly two cuttings leave the same.
+        calls = full_stock([0, 0, 0, 0], [3, 5, 6, 7, 9, 11])
+        begin = time.perf_counter()
+        searches = asked(*calls, *[BEST] * 10)[10:]
+        self.assertEqual(searches, [last(*calls, BEST)] * 10)
+        self.assertEqual(asked(*calls, *[more(1)] * 10)[10:], [[1, 1, 0]] * 10)
+        self.assertLess(time.perf_counter() - begin, 60)
 
     def test_whole_numbers_in_a_list(self):
         for seed in range(20):

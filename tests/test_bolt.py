@@ -4,9 +4,7 @@ import itertools
 import re
 import unittest
 
-from tests.helper import BEGINS, asked, bolt, last, piece
-
-HUGE = 4294967295
+from tests.helper import BEGINS, HUGE, asked, bolt, last, piece
 
 
 def stretches_by_text(length, faults):

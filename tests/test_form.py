@@ -82,6 +82,17 @@ class Form(unittest.TestCase):
                 if isinstance(node, ast.Constant):
                     self.assertNotIn(type(node.value), (float, bytes, complex), (path, node.lineno))
 
+    def test_shapes(self):
+        for path in files():
+            for node in nodes(path):
+                if isinstance(node, ast.Assign):
+                    self.assertEqual(len(node.targets), 1, (path, node.lineno))
+                if isinstance(node, (ast.For, ast.While)):
+                    self.assertEqual(node.orelse, [], (path, node.lineno))
+                if isinstance(node, ast.ListComp):
+                    self.assertEqual(len(node.generators), 1, (path, node.lineno))
+                    self.assertLessEqual(len(node.generators[0].ifs), 1, (path, node.lineno))
+
     def test_names(self):
         for path in files():
             found = nodes(path)

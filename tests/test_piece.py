@@ -3,9 +3,7 @@
 import unittest
 
 from boltpieces.stock import Stock
-from tests.helper import BEGINS, asked, bolt, drop, last, piece
-
-HUGE = 4294967295
+from tests.helper import BEGINS, HUGE, asked, bolt, drop, last, piece
 
 
 def left_of(pieces, *dropped):
